@@ -1,0 +1,1 @@
+"""Binary codes of up to ten bits on a bench of eight slots."""
