@@ -9,15 +9,26 @@ from shortcodes.codes import Code
 from shortcodes.codes import beside_of
 from shortcodes.codes import both_of
 from shortcodes.codes import by_weight
+from shortcodes.codes import counts_by_weight
 from shortcodes.codes import doubled
 from shortcodes.codes import dual_of
 from shortcodes.codes import extended
+from shortcodes.codes import has_word
+from shortcodes.codes import is_within
 from shortcodes.codes import meet_of
+from shortcodes.codes import picks_of
 from shortcodes.codes import punctured
+from shortcodes.codes import same_codes
 from shortcodes.codes import shortened
+from shortcodes.codes import sum_of_picked
 from shortcodes.codes import weight
-from shortcodes.codes import weights_of
 from shortcodes.codes import words_of
+from shortcodes.cosets import farthest_of
+from shortcodes.cosets import leader_of
+from shortcodes.cosets import leaders_of
+from shortcodes.cosets import nearest_words
+from shortcodes.cosets import syndrome_of
+from shortcodes.kinds import kind_of
 
 LAST_SLOT = 7
 MOST_BITS = 10
@@ -115,7 +126,7 @@ def answer_double(slots, o, p, q):
 def answer_weights(slots, o):
     if o > LAST_SLOT:
         return [-1]
-    return [0] + weights_of(slots[o])
+    return [0] + counts_by_weight(slots[o].n, words_of(slots[o]))
 
 
 def answer_least(slots, o):
@@ -128,9 +139,115 @@ def answer_least(slots, o):
     return [0, weight(word), word]
 
 
+def lacks_word(slots, o, y):
+    """Tell whether there is no slot o, or y is no word of as many bits as its code's words have."""
+    return o > LAST_SLOT or y >= 1 << slots[o].n
+
+
+def lacks_place(slots, o, k):
+    """Tell whether there is no slot o, or its code has no more than k words."""
+    return o > LAST_SLOT or k >= 1 << len(slots[o].rows)
+
+
+def answer_holds(slots, o, x):
+    if lacks_word(slots, o, x):
+        return [-1]
+    return [0, int(has_word(slots[o], x))]
+
+
+def answer_near(slots, o, y):
+    if lacks_word(slots, o, y):
+        return [-1]
+    words = nearest_words(slots[o], y)
+    return [0, weight(words[0] ^ y), words[0], len(words)]
+
+
+def answer_radius(slots, o):
+    if o > LAST_SLOT:
+        return [-1]
+    return [0] + farthest_of(slots[o])
+
+
+def answer_leader(slots, o, y):
+    if lacks_word(slots, o, y):
+        return [-1]
+    return [0, leader_of(slots[o], y)]
+
+
+def answer_leaders(slots, o):
+    if o > LAST_SLOT:
+        return [-1]
+    leaders = leaders_of(slots[o])
+    return [0] + counts_by_weight(slots[o].n, list(leaders.values()))
+
+
+def answer_syndrome(slots, o, y):
+    if lacks_word(slots, o, y):
+        return [-1]
+    return [0, syndrome_of(slots[o], y)]
+
+
+def answer_encode(slots, o, m):
+    if lacks_place(slots, o, m):
+        return [-1]
+    return [0, sum_of_picked(slots[o], m)]
+
+
+def answer_decode(slots, o, y):
+    if lacks_word(slots, o, y):
+        return [-1]
+    nearest = nearest_words(slots[o], y)[0]
+    return [0, picks_of(slots[o], nearest), weight(nearest ^ y)]
+
+
+def answer_same(slots, o, p):
+    if max(o, p) > LAST_SLOT:
+        return [-1]
+    return [0, int(same_codes(slots[o], slots[p]))]
+
+
+def answer_within(slots, o, p):
+    if max(o, p) > LAST_SLOT:
+        return [-1]
+    if slots[o].n != slots[p].n:
+        return [-2]
+    return [0, int(is_within(slots[o], slots[p]))]
+
+
+def answer_kind(slots, o):
+    if o > LAST_SLOT:
+        return [-1]
+    return [0, kind_of(slots[o])]
+
+
+def answer_word(slots, o, k):
+    if lacks_place(slots, o, k):
+        return [-1]
+    return [0, sorted(words_of(slots[o]))[k]]
+
+
 # The calls but put, by how many numbers stand behind the call's own.
-CALLS_OF_ONE = {2: answer_form, 11: answer_weights, 12: answer_least}
-CALLS_OF_TWO = {3: answer_dual, 8: answer_extend}
+CALLS_OF_ONE = {
+    2: answer_form,
+    11: answer_weights,
+    12: answer_least,
+    15: answer_radius,
+    17: answer_leaders,
+    23: answer_kind,
+}
+CALLS_OF_TWO = {
+    3: answer_dual,
+    8: answer_extend,
+    13: answer_holds,
+    14: answer_near,
+    16: answer_leader,
+    18: answer_syndrome,
+    19: answer_encode,
+    20: answer_decode,
+    21: answer_same,
+    22: answer_within,
+    24: answer_word,
+}
 CALLS_OF_THREE = {
     4: answer_both,
     5: answer_meet,

@@ -81,6 +81,41 @@ def words_of(code):
     return words
 
 
+def has_word(code, word):
+    """Tell whether the word is one of the code's."""
+    return reduced(code.rows, word) == 0
+
+
+def same_codes(first, second):
+    """Tell whether both have the same n and the same words."""
+    return first.n == second.n and first.rows == second.rows
+
+
+def is_within(first, second):
+    """Tell whether each word of the first is one of the second, which has the same n."""
+    # Sums of the second's words are its words too, so it is enough to ask for the rows.
+    return all([has_word(second, row) for row in first.rows])
+
+
+def sum_of_picked(code, picks):
+    """Give the sum of those rows j of the form for which bit j of picks is 1."""
+    total = 0
+    for j, row in enumerate(code.rows):
+        if has_bit(picks, j):
+            total ^= row
+    return total
+
+
+def picks_of(code, word):
+    """Give the picks of the rows whose sum is this word of the code."""
+    # No other row has a row's highest bit, so the sum has it just if that row is picked.
+    picks = 0
+    for j, row in enumerate(code.rows):
+        if has_bit(word, highest_place(row)):
+            picks |= 1 << j
+    return picks
+
+
 def dual_of(code):
     """Give the code of all words that share an even number of 1s with each word of this one."""
     highest = [highest_place(row) for row in code.rows]
@@ -106,7 +141,7 @@ def both_of(first, second):
 
 def meet_of(first, second):
     """Give the code of the words that both have."""
-    return Code(first.n, [word for word in words_of(first) if reduced(second.rows, word) == 0])
+    return Code(first.n, [word for word in words_of(first) if has_word(second, word)])
 
 
 def punctured(code, i):
@@ -136,9 +171,9 @@ def doubled(first, second):
     return Code(n + n, [row | (row << n) for row in first.rows] + [row << n for row in second.rows])
 
 
-def weights_of(code):
-    """Give how many words of the code have weight 0, 1, up to n."""
-    counts = [0 for place in range(code.n + 1)]
-    for word in words_of(code):
+def counts_by_weight(n, words):
+    """Give how many of these words of n bits have weight 0, 1, up to n."""
+    counts = [0 for place in range(n + 1)]
+    for word in words:
         counts[weight(word)] += 1
     return counts

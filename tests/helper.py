@@ -5,12 +5,17 @@ from shortcodes.benches import answers
 NUMBERS = {
     "put": 1, "form": 2, "dual": 3, "both": 4, "meet": 5, "puncture": 6,
     "shorten": 7, "extend": 8, "beside": 9, "double": 10, "weights": 11, "least": 12,
+    "holds": 13, "near": 14, "radius": 15, "leader": 16, "leaders": 17, "syndrome": 18,
+    "encode": 19, "decode": 20, "same": 21, "within": 22, "kind": 23, "word": 24,
 }
-# What stands behind each call's number: slots, a bit's place, n, rows.
+# What stands behind each call's number: slots, a bit's place, n, rows, words, what is encoded, a word's place.
 SHAPES = {
     "put": "onr", "form": "o", "dual": "oq", "both": "opq", "meet": "opq", "puncture": "oiq",
     "shorten": "oiq", "extend": "oq", "beside": "opq", "double": "opq", "weights": "o", "least": "o",
+    "holds": "ox", "near": "oy", "radius": "o", "leader": "oy", "leaders": "o", "syndrome": "oy",
+    "encode": "om", "decode": "oy", "same": "op", "within": "op", "kind": "o", "word": "ok",
 }
+FILLING = [name for name, shape in SHAPES.items() if name == "put" or "q" in shape]
 HUGE = 1000000000000000000
 HAMMING = [13, 26, 52, 104]
 FORMS = [("form", slot) for slot in range(8)]
@@ -57,8 +62,22 @@ def last(*calls):
     return run(*calls)[-1]
 
 
+def every(n):
+    """Rows of the code of all words of n bits."""
+    return [2 ** i for i in range(n)]
+
+
+def asked(start, calls):
+    """Give the answers to the calls, behind the same start in as many lists of 60 calls as they need."""
+    told = []
+    room = 60 - len(start)
+    for place in range(0, len(calls), room):
+        told += run(*start, *calls[place:place + room])[len(start):]
+    return told
+
+
 def ones(word):
-    return bin(word).count("1")
+    return word.bit_count()
 
 
 def span(rows):
@@ -76,6 +95,31 @@ def form_by_words(words):
 
 def dual_by_words(n, words):
     return frozenset(x for x in range(2 ** n) if all(ones(x & word) % 2 == 0 for word in words))
+
+
+def nearest_by_words(words, y):
+    """The words that are as near to y as any, the least number first."""
+    distance = min(ones(y ^ word) for word in words)
+    return sorted(word for word in words if ones(y ^ word) == distance)
+
+
+def coset_leader(words, y):
+    return min((y ^ word for word in words), key=lambda word: (ones(word), word))
+
+
+def picked(rows, picks):
+    """The sum of those rows j for which bit j of picks is 1."""
+    total = 0
+    for j, row in enumerate(rows):
+        if picks & 2 ** j:
+            total ^= row
+    return total
+
+
+def turn(n, word):
+    """The word with all bits one up and the highest to 0, by its written bits, the highest first."""
+    bits = format(word, f"0{n}b")
+    return int(bits[1:] + bits[0], 2)
 
 
 def drop(n, word, i):
@@ -119,6 +163,15 @@ def thrown_codes(n, how_many, seed):
     """Rows for codes of n bits, few and many, the same each time."""
     dice = Dice(seed * 100 + n)
     return [dice.rows(n, n) for _ in range(how_many)]
+
+
+def codes(seed, how_many=25, lengths=range(1, 11)):
+    """Pairs of n and rows: the code of 0 alone, that of all words, that of one word of 1s, and thrown ones."""
+    pairs = []
+    for n in lengths:
+        pairs += [(n, []), (n, every(n)), (n, [2 ** n - 1])]
+        pairs += [(n, rows) for rows in thrown_codes(n, how_many, seed)]
+    return pairs
 
 
 class SlowBench:
@@ -193,3 +246,70 @@ class SlowBench:
             return [-5]
         weight = min(ones(word) for word in others)
         return [0, weight, min(word for word in others if ones(word) == weight)]
+
+    def holds(self, o, x):
+        n, words = self.slots[o]
+        return [-1] if x >= 2 ** n else [0, 1 if x in words else 0]
+
+    def near(self, o, y):
+        n, words = self.slots[o]
+        if y >= 2 ** n:
+            return [-1]
+        nearest = nearest_by_words(words, y)
+        return [0, ones(nearest[0] ^ y), nearest[0], len(nearest)]
+
+    def radius(self, o):
+        n, words = self.slots[o]
+        distances = [min(ones(y ^ word) for word in words) for y in range(2 ** n)]
+        return [0, max(distances), distances.index(max(distances))]
+
+    def leader(self, o, y):
+        n, words = self.slots[o]
+        return [-1] if y >= 2 ** n else [0, coset_leader(words, y)]
+
+    def leaders(self, o):
+        n, words = self.slots[o]
+        all_leaders = {coset_leader(words, y) for y in range(2 ** n)}
+        return [0] + [sum(1 for word in all_leaders if ones(word) == w) for w in range(n + 1)]
+
+    def syndrome(self, o, y):
+        n, words = self.slots[o]
+        if y >= 2 ** n:
+            return [-1]
+        rows = form_by_words(dual_by_words(n, words))
+        return [0, sum(2 ** j for j, row in enumerate(rows) if ones(y & row) % 2 == 1)]
+
+    def encode(self, o, m):
+        words = self.slots[o][1]
+        return [-1] if m >= len(words) else [0, picked(form_by_words(words), m)]
+
+    def decode(self, o, y):
+        n, words = self.slots[o]
+        if y >= 2 ** n:
+            return [-1]
+        nearest = nearest_by_words(words, y)[0]
+        rows = form_by_words(words)
+        sources = [m for m in range(len(words)) if picked(rows, m) == nearest]
+        return [0] + sources + [ones(nearest ^ y)]
+
+    def same(self, o, p):
+        return [0, 1 if self.slots[o] == self.slots[p] else 0]
+
+    def within(self, o, p):
+        (n, first), (m, second) = self.slots[o], self.slots[p]
+        return [-2] if n != m else [0, 1 if first <= second else 0]
+
+    def kind(self, o):
+        n, words = self.slots[o]
+        dual = dual_by_words(n, words)
+        kind = 1 if all(ones(word) % 2 == 0 for word in words) else 0
+        kind += 2 if all(ones(word) % 4 == 0 for word in words) else 0
+        kind += 4 if words <= dual else 0
+        kind += 8 if words == dual else 0
+        kind += 16 if all(turn(n, word) in words for word in words) else 0
+        kind += 32 if all(len(nearest_by_words(words, y)) == 1 for y in range(2 ** n)) else 0
+        return [0, kind]
+
+    def word(self, o, k):
+        words = self.slots[o][1]
+        return [-1] if k >= len(words) else [0, sorted(words)[k]]

@@ -1,10 +1,8 @@
-"""The twelve calls at ordinary inputs and at the edges of what a code may be."""
+"""The calls put to least (1 to 12) at ordinary inputs and at the edges of what a code may be."""
 
 import unittest
 
-from tests.helper import (
-    Dice, FORMS, HAMMING, NEW_FORMS, NUMBERS, SHAPES, SlowBench, all_codes, form_by_words, last, run, span,
-)
+from tests.helper import Dice, FILLING, FORMS, HAMMING, NEW_FORMS, SHAPES, form_by_words, last, run, span
 
 ALL_TEN = [2 ** i for i in range(10)]
 
@@ -269,56 +267,13 @@ class OtherSlots(unittest.TestCase):
         before = run(*filled, *FORMS)[8:]
         for name, shape in SHAPES.items():
             for target in range(8):
-                places = {"o": 2, "p": 6, "q": target, "i": 1, "n": 5, "r": [21, 9]}
+                places = {"o": 2, "p": 6, "q": target, "i": 1, "n": 5, "r": [21, 9], "x": 3, "y": 6, "m": 1, "k": 1}
                 if "q" not in shape:
                     places["o"] = target
                 after = run(*filled, (name, *[places[letter] for letter in shape]), *FORMS)[8:]
                 self.assertEqual(after[0][0], 0, name)
                 changed = [slot for slot in range(8) if before[slot] != after[1 + slot]]
-                self.assertIn(changed, [[], [target]] if "q" in shape or name == "put" else [[]], name)
-
-
-class AgainstTheSlowBench(unittest.TestCase):
-    def check(self, calls):
-        bench = SlowBench()
-        self.assertEqual(run(*calls), [bench.answer(call) for call in calls], calls)
-
-    def test_all_codes_of_up_to_four_bits_by_themselves(self):
-        for n in range(1, 5):
-            for words in all_codes(n):
-                calls = [("put", 0, n, sorted(words)), ("form", 0), ("weights", 0), ("least", 0)]
-                calls += [("dual", 0, 1), ("form", 1), ("extend", 0, 2), ("form", 2)]
-                for i in range(n + 1):
-                    calls += [("puncture", 0, i, 3), ("form", 3), ("shorten", 0, i, 4), ("form", 4)]
-                self.check(calls)
-
-    def test_all_pairs_of_codes_of_up_to_three_bits(self):
-        codes = [(n, sorted(words)) for n in range(1, 4) for words in all_codes(n)]
-        for n, first in codes:
-            for m, second in codes:
-                calls = [("put", 0, n, first), ("put", 1, m, second)]
-                for name in ("both", "meet", "beside", "double"):
-                    calls += [(name, 0, 1, 2), ("form", 2)]
-                self.check(calls)
-
-    def test_thrown_lines_of_sixty_calls(self):
-        for seed in range(200):
-            dice = Dice(seed)
-            base = seed % 10 + 1
-            calls = [("put", slot, base, dice.rows(base, 4)) for slot in range(8)]
-            self.check(calls + [thrown_call(dice, base) for _ in range(52)])
-
-
-def thrown_call(dice, base):
-    """Puts come often and mostly with the same n, so that many slots hold codes that go together."""
-    name = dice.pick(["put", "put", "put"] + sorted(NUMBERS))
-    n = dice.throw(12) if dice.throw(4) == 0 else base
-    parts = {"i": dice.throw(base + 1), "n": n, "r": dice.rows(min(n, 10), 5)}
-    return (name, *[parts[letter] if letter in parts else thrown_slot(dice) for letter in SHAPES[name]])
-
-
-def thrown_slot(dice):
-    return 8 if dice.throw(60) == 0 else dice.throw(8)
+                self.assertIn(changed, [[], [target]] if name in FILLING else [[]], name)
 
 
 if __name__ == "__main__":

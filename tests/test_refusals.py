@@ -2,7 +2,7 @@
 
 import unittest
 
-from tests.helper import FORMS, HUGE, NEW_FORMS, SHAPES, last, run
+from tests.helper import FORMS, HUGE, NEW_FORMS, SHAPES, every, last, run
 
 FIVES = [("put", slot, 5, [slot + 1, 31]) for slot in range(8)]
 FIVE_FORMS = run(*FIVES, *FORMS)[8:]
@@ -23,7 +23,7 @@ class Refusals(unittest.TestCase):
 class SlotAboveSeven(Refusals):
     def test_in_each_place_of_each_call(self):
         for name, shape in SHAPES.items():
-            ordinary = {"o": 1, "p": 2, "q": 3, "i": 0, "n": 5, "r": [3]}
+            ordinary = {"o": 1, "p": 2, "q": 3, "i": 0, "n": 5, "r": [3], "x": 31, "y": 31, "m": 3, "k": 3}
             self.done(FIVES, (name, *[ordinary[letter] for letter in shape]))
             for place in [letter for letter in shape if letter in "opq"]:
                 for slot in (8, 9, 10, 255, 2 ** 32, HUGE):
@@ -32,12 +32,13 @@ class SlotAboveSeven(Refusals):
 
     def test_in_all_places_at_once(self):
         for name, shape in SHAPES.items():
-            numbers = {"o": 8, "p": HUGE, "q": 8, "i": HUGE, "n": HUGE, "r": [HUGE] * 200}
+            numbers = {"o": 8, "p": HUGE, "q": 8, "i": HUGE, "n": HUGE, "r": [HUGE] * 200,
+                       "x": HUGE, "y": HUGE, "m": HUGE, "k": HUGE}
             self.refused(-1, FIVES, (name, *[numbers[letter] for letter in shape]))
 
     def test_slot_seven_is_there(self):
         for name, shape in SHAPES.items():
-            numbers = {"o": 7, "p": 7, "q": 7, "i": 0, "n": 5, "r": [3]}
+            numbers = {"o": 7, "p": 7, "q": 7, "i": 0, "n": 5, "r": [3], "x": 0, "y": 0, "m": 0, "k": 0}
             self.done(FIVES, (name, *[numbers[letter] for letter in shape]))
 
     def test_on_new_slots(self):
@@ -93,6 +94,19 @@ class UnequalLengths(Refusals):
             for q in (0, 1, 2):
                 self.refused(-2, start, ("double", 0, 1, q))
 
+    def test_within(self):
+        for n, m in ((1, 2), (2, 1), (4, 5), (9, 10), (10, 1)):
+            for rows in ([], [1]):
+                start = [("put", 0, n, rows), ("put", 1, m, rows)]
+                self.refused(-2, start, ("within", 0, 1))
+                self.refused(-2, start, ("within", 1, 0))
+        self.refused(-2, [("put", 0, 2, [])], ("within", 0, 1))
+        self.done([("put", 0, 10, [1]), ("put", 1, 10, [2])], ("within", 0, 1))
+
+    def test_same_is_not_refused(self):
+        for n, m in ((1, 2), (2, 1), (4, 5), (9, 10), (10, 1)):
+            self.assertEqual(last(("put", 0, n, [1]), ("put", 1, m, [1]), ("same", 0, 1)), [0, 0])
+
     def test_the_target_may_have_another(self):
         start = [("put", 0, 4, [1]), ("put", 1, 4, [2]), ("put", 2, 9, [3])]
         for name in ("both", "meet", "double"):
@@ -141,6 +155,46 @@ class MoreThanTenBits(Refusals):
             self.refused(-2, [("put", 0, n, [1]), ("put", 1, n, [])], ("double", 0, 1, 2))
 
 
+class NoWord(Refusals):
+    def test_a_number_that_is_no_word_of_n_bits(self):
+        for name in ("holds", "near", "leader", "syndrome", "decode"):
+            for n in range(1, 11):
+                for rows in ([], [1], [2 ** n - 1], every(n)):
+                    start = [("put", 0, n, rows)]
+                    self.done(start, (name, 0, 0))
+                    self.done(start, (name, 0, 2 ** n - 1))
+                    for y in (2 ** n, 2 ** n + 1, 2 ** 10, 2 ** 32, HUGE):
+                        self.refused(-1, start, (name, 0, y))
+
+    def test_on_new_slots(self):
+        for name in ("holds", "near", "leader", "syndrome", "decode"):
+            self.done([], (name, 7, 1))
+            self.refused(-1, [], (name, 7, 2))
+
+
+class MoreThanTheRowsMake(Refusals):
+    def test_m_or_k_is_not_below_how_many_words_there_are(self):
+        for name in ("encode", "word"):
+            for n in range(1, 11):
+                for how_many in range(n + 1):
+                    start = [("put", 0, n, every(n)[n - how_many:])]
+                    self.done(start, (name, 0, 0))
+                    self.done(start, (name, 0, 2 ** how_many - 1))
+                    for number in (2 ** how_many, 2 ** how_many + 1, 2 ** 10, HUGE):
+                        self.refused(-1, start, (name, 0, number))
+
+    def test_the_forms_rows_count_not_those_handed_in(self):
+        start = [("put", 0, 4, [3, 5, 6, 3, 0])]
+        for name in ("encode", "word"):
+            self.done(start, (name, 0, 3))
+            self.refused(-1, start, (name, 0, 4))
+
+    def test_on_new_slots(self):
+        for name in ("encode", "word"):
+            self.done([], (name, 0, 0))
+            self.refused(-1, [], (name, 0, 1))
+
+
 class NoneButZero(Refusals):
     def test_least(self):
         self.refused(-5, [], ("least", 0))
@@ -159,6 +213,16 @@ class SlotAheadOfTheRest(Refusals):
                 self.refused(-1, start, (name, 0, 1, slot))
                 self.refused(-1, start, (name, 0, slot, 2))
                 self.refused(-1, start, (name, slot, 1, 2))
+
+    def test_within(self):
+        start = [("put", 0, 10, [3]), ("put", 1, 9, [3])]
+        self.refused(-2, start, ("within", 0, 1))
+        for slot in (8, HUGE):
+            self.refused(-1, start, ("within", 0, slot))
+            self.refused(-1, start, ("within", slot, 1))
+            self.refused(-1, start, ("same", 0, slot))
+            self.refused(-1, start, ("same", slot, 0))
+            self.refused(-1, start, ("same", slot, slot))
 
     def test_where_there_is_no_such_bit(self):
         for name in ("puncture", "shorten"):
@@ -184,6 +248,16 @@ class ManyRefusals(Refusals):
         told = run(*FIVES, *refused, *FORMS)[8:]
         self.assertEqual(told[:10], [[-1], [-1], [-1], [-1], [-2], [-2], [-1], [-1], [-1], [-1]])
         self.assertEqual(told[10:], FIVE_FORMS)
+
+    def test_of_the_calls_that_only_tell(self):
+        refused = [
+            ("holds", 0, 32), ("near", 8, 0), ("near", 0, HUGE), ("radius", 8), ("leader", 0, 32), ("leaders", HUGE),
+            ("syndrome", 0, 32), ("encode", 0, 4), ("decode", 0, 32), ("same", 8, 0), ("within", 0, 8), ("kind", 9),
+            ("word", 0, 4), ("word", 9, 0),
+        ]
+        told = run(*FIVES, *refused, *FORMS)[8:]
+        self.assertEqual(told[:14], [[-1]] * 14)
+        self.assertEqual(told[14:], FIVE_FORMS)
 
 
 if __name__ == "__main__":
